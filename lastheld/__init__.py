@@ -1,0 +1,1 @@
+"""Linked fields that are set in many places, with all equations always true."""
