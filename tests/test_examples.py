@@ -28,6 +28,82 @@ WRONG_NUMBER_TEXT = """
 raises InvalidText(line=1)
 """
 
+SHEETS = """
+>>> from lastheld.sheets import Sheet
+>>> sheet = Sheet(["a", "b", "s"])
+>>> [sheet.fields(), sheet.width, sheet.place("s"), sheet.equation(s=-1, a=1, b=1), str(sheet), sheet == Sheet.read("a b s")]
+[['a', 'b', 's'], 3, 2, (1, 1, -1), 'a b s', True]
+"""
+
+EQUATION_TEXTS = """
+>>> from lastheld.sheets import Sheet
+>>> sheet = Sheet(["a", "b", "s"])
+>>> [sheet.equation_text((1, 0, -2)), sheet.equation_text((0, 0, 0)), sheet.parse_equation("-3 b"), sheet.is_equation([1, 1, 1])]
+['1 a -2 s', '0', (0, -3, 0), False]
+"""
+
+WRONG_FIELDS = """
+>>> from lastheld.sheets import Sheet
+>>> Sheet(["a", "b", "a"])
+raises InvalidFields(index=2)
+"""
+
+SPACES = """
+>>> from lastheld.sheets import Sheet
+>>> from lastheld.spaces import Space
+>>> space = Space(Sheet(["a", "b", "s"]), [(1, 1, -1), (0, 3, -1)])
+>>> [space, space.freedom, space.follows((3, 3, -3)), space.combination((3, 3, -3)), space.combination((1, 0, 0))]
+[Space(['a', 'b', 's'], [(3, 0, -2), (0, 3, -1)]), 1, True, [1, 1], None]
+"""
+
+EXPRESSIONS = """
+>>> from lastheld.sheets import Sheet
+>>> from lastheld.spaces import Space
+>>> space = Space(Sheet(["a", "b", "s"]), [(2, 1, -1)])
+>>> [space.are_free(["a", "s"]), space.determined(["b", "s"]), space.expression("a", ["b", "s"]), space.identity("a", ["b", "s"])]
+[True, ['a', 'b', 's'], {'b': (-1, 2), 's': (1, 2)}, [(1, 2)]]
+"""
+
+ZERO_FIELDS = """
+>>> from lastheld.sheets import Sheet
+>>> from lastheld.spaces import Space
+>>> space = Space(Sheet(["a", "b"]), [(1, 1), (1, -1)])
+>>> [space.rows(), space.zero_fields(), space.determined([]), space.expression("a", [])]
+[[(1, 0), (0, 1)], ['a', 'b'], ['a', 'b'], {}]
+"""
+
+NOT_DETERMINED = """
+>>> from lastheld.sheets import Sheet
+>>> from lastheld.spaces import Space
+>>> Space(Sheet(["a", "b", "s"]), [(1, 1, -1)]).expression("s", ["a"])
+raises NotDetermined(field='s')
+"""
+
+COMPONENTS = """
+>>> from lastheld.sheets import Sheet
+>>> from lastheld.spaces import Space
+>>> Space(Sheet(["a", "x", "b", "y", "z"]), [(1, 0, -2, 0, 0), (0, 3, 0, 1, 0)]).components()
+[('a', 'b'), ('x', 'y'), ('z',)]
+"""
+
+SETTINGS = """
+>>> from lastheld.settings import is_setting, is_stronger
+>>> from lastheld.sheets import Sheet
+>>> sheet = Sheet(["a", "b"])
+>>> [is_stronger(sheet, (0, 5, "bo", "a", 1), (0, 5, "ann", "b", 9)), is_stronger(sheet, (0, 9, "bo", "a", 1), (1, 2, "ann", "b", 9)), is_setting(sheet, (0, 0, "ann", "a", 1))]
+[True, False, False]
+"""
+
+HOLDING = """
+>>> from lastheld.holding import base, held, holding_steps
+>>> from lastheld.sheets import Sheet
+>>> from lastheld.spaces import Space
+>>> space = Space(Sheet(["a", "b", "s"]), [(1, 1, -1)])
+>>> settings = [(0, 1, "ann", "a", 3), (0, 2, "bo", "s", 10), (0, 3, "ann", "b", 4)]
+>>> [held(space, settings[:2]), base(space, settings[:1]), [is_held for setting, is_held in holding_steps(space, settings)]]
+[[(0, 2, 'bo', 's', 10), (0, 1, 'ann', 'a', 3)], ['a', 'b'], [True, True, False]]
+"""
+
 
 def shown_error(error):
     """An error as the examples write it: its class, and its fields in their sequence."""
@@ -78,6 +154,36 @@ class ExampleTest(unittest.TestCase):
 
     def test_wrong_number_text(self):
         self.assert_example(WRONG_NUMBER_TEXT)
+
+    def test_sheets(self):
+        self.assert_example(SHEETS)
+
+    def test_equation_texts(self):
+        self.assert_example(EQUATION_TEXTS)
+
+    def test_wrong_fields(self):
+        self.assert_example(WRONG_FIELDS)
+
+    def test_spaces(self):
+        self.assert_example(SPACES)
+
+    def test_expressions(self):
+        self.assert_example(EXPRESSIONS)
+
+    def test_zero_fields(self):
+        self.assert_example(ZERO_FIELDS)
+
+    def test_not_determined(self):
+        self.assert_example(NOT_DETERMINED)
+
+    def test_components(self):
+        self.assert_example(COMPONENTS)
+
+    def test_settings(self):
+        self.assert_example(SETTINGS)
+
+    def test_holding(self):
+        self.assert_example(HOLDING)
 
 
 if __name__ == "__main__":

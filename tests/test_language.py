@@ -3,6 +3,7 @@
 import os
 import unittest
 
+import class_rules
 import language_rules as rules
 
 ROOT = os.path.dirname(os.path.dirname(os.path.abspath(__file__)))
@@ -30,7 +31,7 @@ class PackageTest(unittest.TestCase):
             self.assertTrue(os.path.isfile(os.path.join(FOLDER, name)), name)
 
     def test_the_files_of_the_interface_exist(self):
-        for name in ["errors.py", "names.py", "rationals.py"]:
+        for name in ["errors.py", "names.py", "rationals.py", "sheets.py", "spaces.py", "settings.py", "holding.py"]:
             self.assertIn(name, file_names())
 
     def test_texts(self):
@@ -38,6 +39,12 @@ class PackageTest(unittest.TestCase):
         defined = {module: rules.defined_names(text) for module, text in texts.items()}
         for module, text in texts.items():
             self.assertEqual(rules.text_faults(text, defined), [], module)
+
+    def test_classes_and_calls(self):
+        texts = package_texts()
+        for module, text in texts.items():
+            self.assertEqual(class_rules.class_faults(text), [], module)
+        self.assertEqual(class_rules.package_faults(texts), [])
 
     def test_no_circle_of_imports(self):
         self.assertEqual(rules.circle_faults(package_texts()), [])
@@ -104,6 +111,114 @@ class RulesTest(unittest.TestCase):
         self.assertEqual(rules.circle_faults({"lastheld.a": one, "lastheld.b": two, "lastheld.c": "x = 1\n"}), [])
         texts = {"lastheld.a": one, "lastheld.b": two, "lastheld.c": three}
         self.assertEqual(len(rules.circle_faults(texts)), 3)
+
+
+GOOD_CLASS = '''"""A class."""
+
+from lastheld.names import is_name
+
+
+class Box:
+    """A box."""
+
+    MOST = 12
+
+    def __init__(self, rows=(), most=-1):
+        self.kept = [row for row in rows if is_name(row)]
+
+    @classmethod
+    def made(cls, text):
+        """A box."""
+        return cls(text.split(" "))
+
+    def __eq__(self, other):
+        return isinstance(other, Box) and self.kept == other.kept
+
+    def __len__(self):
+        return len(self.kept)
+
+    def __repr__(self):
+        return f"Box({self.kept!r})"
+
+    @property
+    def many(self):
+        """How many."""
+        return len(set(self.kept))
+
+    @many.setter
+    def many(self, value):
+        self.kept = [value for at in range(value)]
+
+
+def steps(xs):
+    """Yield each."""
+    for at, x in enumerate(xs):
+        yield (at, x)
+
+
+def total(xs):
+    """The sum."""
+    seen = set()
+    for at, x in steps(xs):
+        seen.add(x)
+    if not seen:
+        raise ValueError("none")
+    return sum([at for at, x in steps(xs)]) + len(sorted(seen, reverse=True))
+'''
+BAD_CLASSES = [
+    "class A:\n    def __hash__(self):\n        return 1\n", "def __eq__(self, other):\n    return True\n",
+    "class A:\n    def __getattr__(self, name):\n        return 1\n",
+    "def over(f):\n    return f\n\n\n@over\ndef g():\n    pass\n",
+    "class A:\n    @property\n    @staticmethod\n    def f():\n        pass\n",
+    "def over(f):\n    return f\n\n\n@over\nclass A:\n    pass\n",
+    "def f(a=[]):\n    pass\n", "def f(a={}):\n    pass\n", "def f(*, a=len('a')):\n    pass\n", "def f(a, /):\n    pass\n",
+    "def f(xs):\n    return any(x for x in xs)\n", "def f(xs):\n    return sorted(x for x in xs)\n",
+    "def f(xs):\n    return max(xs, base=1)\n", "def f(x):\n    return int(x, base=2)\n",
+    "def f(xs):\n    rows = zip(xs, xs)\n    return rows\n", "def f(d):\n    return d.items()\n",
+    "def f(k):\n    return range(k)\n", "def f(d):\n    return d.keys() == 1\n", "def f(xs):\n    return set(enumerate(xs))\n",
+    "def f(e):\n    raise e\n", "def f(self):\n    raise self.wrong()\n", "def f():\n    raise ValueError\n",
+    "def f():\n    try:\n        pass\n    except Exception:\n        pass\n",
+    "def f():\n    try:\n        pass\n    except:\n        pass\n",
+    "def f():\n    try:\n        pass\n    except (KeyError, TypeError):\n        pass\n",
+    "def f(xs):\n    return set(xs)\n", "def f(xs):\n    return [x for x in set(xs)]\n", "def f(xs):\n    return frozenset(xs)\n",
+    "def f(xs):\n    return list({x for x in xs})\n",
+    "class A:\n    def __init__(self):\n        return None\n",
+    "class A:\n    def __init__(self):\n        self.a = sorted([1], key=lambda x: -x)\n",
+    "class A:\n    def __len__(self):\n        return self.a\n", "class A:\n    def __repr__(self):\n        return 'a' + 'b'\n",
+    "class A:\n    def __str__(self):\n        text = 'a'\n        return str(text)\n",
+    "class A:\n    def __eq__(self, other):\n        self.a = 1\n        return True\n",
+    "from lastheld.names import is_name\n\n\ndef f(is_name):\n    pass\n",
+    "class A:\n    pass\n\n\ndef f():\n    A = 1\n", "class A:\n    def f(self):\n        pass\n\n    def f(self):\n        pass\n",
+]
+STEPS = "def steps(xs):\n    yield 1\n\n\n"
+BAD_PACKAGES = [
+    STEPS + "def f(xs):\n    return steps(xs)\n", STEPS + "def f(xs):\n    kept = steps(xs)\n    return list(kept)\n",
+    STEPS + "def f(xs):\n    return list(xs, key=steps)\n", STEPS + "def f(xs):\n    return len(steps(xs))\n",
+    STEPS + "def f(xs):\n    return [*steps(xs)]\n", "def f(xs):\n    x = yield xs\n    return\n",
+    "class A:\n    def f(self):\n        pass\n\n\nclass B:\n    def __init__(self):\n        self.f = 1\n",
+    "class A:\n    MOST = 1\n\n    def __init__(self):\n        self.MOST = 2\n", "def f(a):\n    return a.unknown\n",
+    "def f(a):\n    return a.intersection(a)\n", "def f(a):\n    return a.to_bytes(2, 'big')\n",
+]
+
+
+class ClassRulesTest(unittest.TestCase):
+    def test_a_good_text_has_no_faults(self):
+        self.assertEqual(class_rules.class_faults(GOOD_CLASS), [])
+        self.assertEqual(class_rules.package_faults({"lastheld.a": GOOD_CLASS}), [])
+        self.assertEqual(rules.text_faults(GOOD_CLASS, DEFINED), [])
+
+    def test_each_bad_text_has_a_fault(self):
+        for text in BAD_CLASSES:
+            self.assertNotEqual(class_rules.class_faults(text), [], text)
+
+    def test_each_bad_package_has_a_fault(self):
+        for text in BAD_PACKAGES:
+            self.assertNotEqual(class_rules.package_faults({"lastheld.a": text}), [], text)
+
+    def test_faults_of_two_files_together(self):
+        one = "class A:\n    def f(self):\n        pass\n"
+        two = "class B:\n    def __init__(self):\n        self.f = 1\n"
+        self.assertNotEqual(class_rules.package_faults({"lastheld.a": one, "lastheld.b": two}), [])
 
 
 if __name__ == "__main__":
