@@ -23,8 +23,8 @@ def held(space, settings):
 
 def base(space, settings):
     """The base: the fields of the held settings, strongest first, then those that are held from the beginning."""
-    listed = [setting[3] for setting in held(space, settings)]
+    chosen = [setting[3] for setting in held(space, settings)]
     for field in space.sheet().fields():
-        if field not in space.determined(listed):
-            listed.append(field)
-    return listed
+        if field not in space.determined(chosen):
+            chosen.append(field)
+    return chosen
