@@ -2,6 +2,7 @@
 
 from lastheld.errors import InvalidEquation, InvalidEquations, InvalidFields, UnknownField
 from lastheld.names import is_name
+from lastheld.rationals import is_number
 
 
 def first_wrong(values, is_right):
@@ -31,6 +32,13 @@ def check_field(sheet, value):
     """Raise UnknownField for a value that is not a field of the sheet."""
     if not sheet.has_field(value):
         raise UnknownField(value)
+
+
+def is_pair(sheet, value):
+    """Whether a value is a tuple of a field of the sheet and a number."""
+    if not isinstance(value, tuple) or len(value) != 2:
+        return False
+    return sheet.has_field(value[0]) and is_number(value[1])
 
 
 def check_fields(sheet, values):

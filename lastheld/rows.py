@@ -67,3 +67,13 @@ def row_text(row):
 def rows_text(rows):
     """A list of rows as Python shows it."""
     return "[" + ", ".join([row_text(row) for row in rows]) + "]"
+
+
+def numbers_text(numbers):
+    """A dict from names to numbers as Python shows it."""
+    texts = []
+    for name in numbers:
+        worth = numbers[name]
+        shown = row_text(worth) if isinstance(worth, tuple) else integer_text(worth)
+        texts.append(f"{name!r}: {shown}")
+    return "{" + ", ".join(texts) + "}"

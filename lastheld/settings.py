@@ -1,11 +1,22 @@
 """Settings of fields, and which of two is stronger."""
 
 from lastheld.checks import first_wrong
-from lastheld.errors import InvalidSetting, InvalidSettings
+from lastheld.errors import InvalidLevel, InvalidSetting, InvalidSettings
 from lastheld.names import is_integer, is_name
 from lastheld.rationals import common_divisor, is_number, parts_of
 
 HIGHEST_LEVEL = 2
+
+
+def is_known_level(value):
+    """Whether a value is an integer from 0 to 2."""
+    return is_integer(value) and 0 <= value <= HIGHEST_LEVEL
+
+
+def check_level(value):
+    """Raise InvalidLevel for a value that is not a level."""
+    if not is_known_level(value):
+        raise InvalidLevel(value)
 
 
 def is_setting(sheet, value):
@@ -13,9 +24,7 @@ def is_setting(sheet, value):
     if not isinstance(value, tuple) or len(value) != 5:
         return False
     level, time, replica, field, worth = value
-    if not is_integer(level) or not 0 <= level <= HIGHEST_LEVEL:
-        return False
-    if not is_integer(time) or time < 1:
+    if not is_known_level(level) or not is_integer(time) or time < 1:
         return False
     return is_name(replica) and sheet.has_field(field) and is_number(worth)
 

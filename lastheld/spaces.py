@@ -87,6 +87,13 @@ class Space:
         places = [place for place in all_places(self.home) if place not in others]
         return normal_form(self.normal, others + places)
 
+    def following(self, ranked):
+        """The list of the fields that are determined by those before them, in a list of all fields."""
+        # If pivots are searched from the last field on, each row has its pivot at the last field that it links.
+        order = [self.home.place(field) for field in ranked[::-1]]
+        pivots = [pivot_place(row, order) for row in normal_form(self.normal, order)]
+        return [field for field in ranked if self.home.place(field) in pivots]
+
     def are_free(self, fields):
         """Whether fields are free together."""
         check_fields(self.home, fields)
@@ -125,14 +132,26 @@ class Space:
             raise NotDetermined(field)
         return solved[field]
 
+    def row_expression(self, row, field, fields):
+        """The expression of a field by others, from a row that links it with them alone."""
+        own = row[self.home.place(field)]
+        coefficients = {given: number(-row[self.home.place(given)], own) for given in fields}
+        return {given: coefficients[given] for given in fields if coefficients[given] != 0}
+
     def expression(self, field, fields):
         """The expression of a field by fields that are free together."""
         row = self.defining_row(field, fields)
         if row is None:
             return {field: 1}
-        own = row[self.home.place(field)]
-        coefficients = {given: number(-row[self.home.place(given)], own) for given in fields}
-        return {given: coefficients[given] for given in fields if coefficients[given] != 0}
+        return self.row_expression(row, field, fields)
+
+    def all_expressions(self, fields):
+        """From each field to its expression by fields that are free together and determine all."""
+        solved = self.solved_rows(fields)
+        found = {}
+        for field in self.home.fields():
+            found[field] = self.row_expression(solved[field], field, fields) if field in solved else {field: 1}
+        return found
 
     def identity(self, field, fields):
         """The numbers, one for each row, with which the multiplied rows add up to a field minus its expression."""

@@ -59,6 +59,21 @@ def determine(found, places, place):
     return rank(len(found), columns(found, places)) == rank(len(found), columns(found, [*places, place]))
 
 
+def coefficients(found, places, place):
+    """The numbers with which the fields at these places, which are free together, add up to the one at a place."""
+    rows = [[*[values[given] for given in places], -values[place]] for values in found]
+    # With one more unknown for the field itself there is one solution, but for a multiple.
+    for solution in solutions(len(places) + 1, rows):
+        if solution[-1] != 0:
+            return [own / solution[-1] for own in solution[:-1]]
+    raise AssertionError("the fields do not determine the other one")
+
+
+def number_of(fraction):
+    """The number of the program with the value of a Fraction."""
+    return fraction.numerator if fraction.denominator == 1 else (fraction.numerator, fraction.denominator)
+
+
 def total(row, values):
     return sum([Fraction(coefficient) * value for coefficient, value in zip(row, values)], Fraction(0))
 

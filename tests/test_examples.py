@@ -104,6 +104,93 @@ HOLDING = """
 [[(0, 2, 'bo', 's', 10), (0, 1, 'ann', 'a', 3)], ['a', 'b'], [True, True, False]]
 """
 
+STATES = """
+>>> from lastheld.sheets import Sheet
+>>> from lastheld.spaces import Space
+>>> from lastheld.states import State
+>>> space = Space(Sheet(["a", "b", "s"]), [(1, 1, -1)])
+>>> state = State(space, [(0, 1, "ann", "a", 3), (0, 2, "bo", "s", 10), (0, 3, "ann", "b", 4)])
+>>> [state, len(state), state.clock, state.all_values(), state.expression("a"), state.setting_of("a"), state.held()[1]]
+[State(['b', 's'], 3), 2, 3, {'a': 6, 'b': 4, 's': 10}, {'b': -1, 's': 1}, None, (0, 2, 'bo', 's', 10)]
+"""
+
+HOLDING_IN_STATES = """
+>>> from lastheld.sheets import Sheet
+>>> from lastheld.spaces import Space
+>>> from lastheld.states import State
+>>> space = Space(Sheet(["a", "b", "s"]), [(1, 1, -1)])
+>>> state = State(space, [(2, 1, "ann", "a", 3), (1, 2, "bo", "s", 10)])
+>>> [state.holds((0, 9, "bo", "b", 1)), state.reason((0, 9, "bo", "b", 1)), state.least_level("b"), state.least_level("a"), state.changed_fields(state.with_equation((0, 1, 0)))]
+[False, {'a': -1, 's': 1}, 1, 2, ['b', 's']]
+"""
+
+REPLICAS = """
+>>> from lastheld.replicas import Replica
+>>> from lastheld.sheets import Sheet
+>>> replica = Replica("ann", Sheet(["a", "b", "s"]))
+>>> leaving = [replica.add_equation((1, 1, -1)), replica.assign("a", 3), replica.assign("b", 4), replica.assign("s", 10)]
+>>> [leaving, replica, replica.state().base(), replica.preview("a", 1), replica.clock]
+[['s', 'a', 'b', 'a'], Replica('ann', {'a': 6, 'b': 4, 's': 10}), ['s', 'b'], ('b', ['a', 'b']), 3]
+"""
+
+SEVERAL_ASSIGNMENTS = """
+>>> from lastheld.replicas import Replica
+>>> from lastheld.sheets import Sheet
+>>> replica = Replica("ann", Sheet(["a", "b", "s"]))
+>>> first = replica.add_equation((1, 1, -1))
+>>> [replica.assign_all(("a", 1), ("b", 2)), replica.assign_named(s=(1, 2), a=5), replica.all_values()]
+[['a', 'b'], ['a', 'b'], {'a': 5, 'b': (-9, 2), 's': (1, 2)}]
+"""
+
+REFUSED_ASSIGNMENT = """
+>>> from lastheld.replicas import Replica
+>>> from lastheld.sheets import Sheet
+>>> replica = Replica("ann", Sheet(["a", "b", "s"]))
+>>> leaving = [replica.add_equation((1, 1, -1)), replica.assign_all(("a", 1), ("s", 3), level=2)]
+>>> replica.assign("b", 5, level=1)
+raises Refused(field='b', level=1, cause={'s': 1, 'a': -1})
+"""
+
+TAKING_BACK = """
+>>> from lastheld.replicas import Replica
+>>> from lastheld.sheets import Sheet
+>>> replica = Replica("ann", Sheet(["a", "b", "s"]))
+>>> leaving = [replica.add_equation((1, 1, -1)), replica.assign("a", 3), replica.assign("b", 4), replica.assign("s", 10)]
+>>> replica.take_back()
+>>> [replica.all_values(), replica.state().base(), replica.clock]
+[{'a': 3, 'b': 4, 's': 7}, ['s', 'b'], 4]
+"""
+
+NOTHING_TO_TAKE_BACK = """
+>>> from lastheld.replicas import RecordingReplica
+>>> from lastheld.sheets import Sheet
+>>> replica = RecordingReplica("ann", Sheet(["a", "b"]), most=2)
+>>> leaving = [replica.assign("a", 3), replica.add_equation((1, 1)), replica.add_equation((2, 2))]
+>>> replica.take_back()
+raises NothingToTakeBack
+"""
+
+RECORDS = """
+>>> from lastheld.replicas import RecordingReplica
+>>> from lastheld.sheets import Sheet
+>>> replica = RecordingReplica("ann", Sheet(["a", "b"]), most=2)
+>>> leaving = [replica.assign("a", 3), replica.add_equation((1, 1)), replica.add_equation((2, 2)), replica.assign("b", 1, level=1)]
+>>> [leaving, replica.records(), replica.total]
+[['a', 'b', None, 'a'], [('equation', (1, 1), 'b'), ('assign', 'b', 1, 1, 'a')], 3]
+"""
+
+JOINING = """
+>>> from lastheld.joining import brings_nothing, forecast, joined
+>>> from lastheld.sheets import Sheet
+>>> from lastheld.spaces import Space
+>>> from lastheld.states import State
+>>> space = Space(Sheet(["a", "b", "s"]), [(1, 1, -1)])
+>>> one = State(space, [(0, 1, "ann", "a", 3), (0, 2, "ann", "b", 4)])
+>>> other = State(space, [(0, 1, "ann", "a", 3), (0, 2, "bo", "s", 10)])
+>>> [joined(one, other), brings_nothing(one, other), forecast(one, other)]
+[State(['s', 'b'], 2), False, ([(0, 2, 'bo', 's', 10), (0, 2, 'ann', 'b', 4)], ['b'], ['s'])]
+"""
+
 
 def shown_error(error):
     """An error as the examples write it: its class, and its fields in their sequence."""
@@ -184,6 +271,33 @@ class ExampleTest(unittest.TestCase):
 
     def test_holding(self):
         self.assert_example(HOLDING)
+
+    def test_states(self):
+        self.assert_example(STATES)
+
+    def test_holding_in_states(self):
+        self.assert_example(HOLDING_IN_STATES)
+
+    def test_replicas(self):
+        self.assert_example(REPLICAS)
+
+    def test_several_assignments(self):
+        self.assert_example(SEVERAL_ASSIGNMENTS)
+
+    def test_refused_assignment(self):
+        self.assert_example(REFUSED_ASSIGNMENT)
+
+    def test_taking_back(self):
+        self.assert_example(TAKING_BACK)
+
+    def test_nothing_to_take_back(self):
+        self.assert_example(NOTHING_TO_TAKE_BACK)
+
+    def test_records(self):
+        self.assert_example(RECORDS)
+
+    def test_joining(self):
+        self.assert_example(JOINING)
 
 
 if __name__ == "__main__":

@@ -11,6 +11,7 @@ from lastheld.errors import InvalidSettings
 from lastheld.holding import base, held, holding_steps
 from lastheld.sheets import Sheet
 from lastheld.spaces import Space
+from models import Small, random_settings, small_cases
 from values import error_of, no_lists, other_kinds
 
 ABS = Space(Sheet(["a", "b", "s"]), [(1, 1, -1)])
@@ -18,59 +19,6 @@ SETTINGS = [(0, 1, "ann", "a", 3), (0, 2, "bo", "s", 10), (0, 3, "ann", "b", 4)]
 NO_SETTINGS = [None, True, 1, "x", (), [], SETTINGS[0][:4], list(SETTINGS[0]), (True, 1, "ann", "a", 3),
                (0, True, "ann", "a", 3), (0, 0, "ann", "a", 3), (3, 1, "ann", "a", 3), (0, 1, "Ann", "a", 3),
                (0, 1, "ann", "c", 3), (0, 1, "ann", "a", (2, 4)), (0, 1, "ann", "a", True)]
-
-
-def random_settings(source, fields, count):
-    values = [0, 1, -4, (1, 2), (-7, 3), 10 ** 30]
-    return [(source.choice([0, 0, 1, 2]), source.randint(1, 4), source.choice(["ann", "bo"]), source.choice(fields),
-             source.choice(values)) for _ in range(count)]
-
-
-class Small:
-    """A small space, solutions of which every solution is a sum of multiples, and settings."""
-
-    def __init__(self, width, equations, settings):
-        self.width = width
-        self.equations = equations
-        self.fields = list(linear.LETTERS[:width])
-        self.space = Space(Sheet(self.fields), equations)
-        self.found = linear.solutions(width, equations)
-        self.settings = settings
-
-    def places(self, settings):
-        return [self.fields.index(setting[3]) for setting in settings]
-
-    def key(self, setting):
-        level, time, replica, field, value = setting
-        return (level, time, replica, self.fields.index(field), linear.fraction_of(value))
-
-    def sorted(self, settings):
-        return sorted(set(settings), key=self.key, reverse=True)
-
-    def own_held(self):
-        """The held settings by the rule of point [11]."""
-        kept = []
-        for setting in self.sorted(self.settings):
-            if not linear.determine(self.found, self.places(kept), self.fields.index(setting[3])):
-                kept.append(setting)
-        return kept
-
-    def own_base(self):
-        places = self.places(self.own_held())
-        for place in range(self.width):
-            if not linear.determine(self.found, places, place):
-                places.append(place)
-        return [self.fields[place] for place in places]
-
-
-def small_cases(count):
-    """Small spaces, each with so many settings, and some of them with none."""
-    source = random.Random(3)
-    cases = []
-    for width, equations in linear.few_equations():
-        fields = linear.LETTERS[:width]
-        cases.append(Small(width, equations, random_settings(source, fields, count)))
-    return cases + [Small(width, equations, []) for width, equations in linear.few_equations()[::9]]
 
 
 class RuleTest(unittest.TestCase):

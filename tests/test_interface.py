@@ -1,4 +1,4 @@
-"""That everything the document's interface lists for sheets, spaces, settings and holding exists as it is written."""
+"""That everything the document's interface lists exists as it is written."""
 
 import importlib
 import inspect
@@ -11,6 +11,10 @@ FUNCTIONS = {
     },
     "holding": {
         "held": "(space, settings)", "base": "(space, settings)", "holding_steps": "(space, settings)",
+    },
+    "joining": {
+        "joined": "(first, *others)", "join_steps": "(first, *others)", "brings_nothing": "(state, other)",
+        "forecast": "(one, other)",
     },
 }
 METHODS = {
@@ -27,9 +31,35 @@ METHODS = {
         "are_free": "(self, fields)", "determined": "(self, fields)", "expression": "(self, field, fields)",
         "identity": "(self, field, fields)", "components": "(self)",
     },
+    ("states", "State"): {
+        "__init__": "(self, space, settings=(), *, clock=0)", "__eq__": "(self, other)", "__len__": "(self)",
+        "__repr__": "(self)", "space": "(self)", "held": "(self)", "base": "(self)", "setting_of": "(self, field)",
+        "value_of": "(self, field)", "all_values": "(self)", "expression": "(self, field)", "holds": "(self, setting)",
+        "reason": "(self, setting)", "least_level": "(self, field)", "with_setting": "(self, setting)",
+        "with_equation": "(self, equation)", "changed_fields": "(self, other)",
+    },
+    ("replicas", "Replica"): {
+        "__init__": "(self, name, sheet)", "__eq__": "(self, other)", "__repr__": "(self)", "use_level": "(self, level)",
+        "state": "(self)", "value_of": "(self, field)", "all_values": "(self)",
+        "assign": "(self, field, value, *, level=None)", "preview": "(self, field, value, *, level=None)",
+        "assign_all": "(self, *pairs, level=None)", "assign_named": "(self, *, level=None, **values)",
+        "add_equation": "(self, equation)", "receive": "(self, state)", "take_back": "(self)", "clone": "(self)",
+    },
+    ("replicas", "RecordingReplica"): {
+        "__init__": "(self, name, sheet, *, most=20)", "__eq__": "(self, other)", "__repr__": "(self)",
+        "records": "(self)", "clone": "(self)",
+    },
 }
 CLASS_METHODS = {("sheets", "Sheet"): {"read": "(text)"}, ("spaces", "Space"): {"joined": "(first, *others)"}}
-PROPERTIES = {("sheets", "Sheet"): ["width"], ("spaces", "Space"): ["freedom"]}
+STATIC_METHODS = {("replicas", "Replica"): {"is_level": "(value)"}}
+PROPERTIES = {
+    ("sheets", "Sheet"): ["width"], ("spaces", "Space"): ["freedom"], ("states", "State"): ["clock", "freedom"],
+    ("replicas", "Replica"): ["name", "clock", "freedom", "default_level"], ("replicas", "RecordingReplica"): ["total"],
+}
+CLASS_VALUES = {
+    ("sheets", "Sheet"): {"MAX_FIELDS": 12}, ("replicas", "Replica"): {"ORDINARY": 0, "IMPORTANT": 1, "FIXED": 2},
+}
+BASES = {("replicas", "RecordingReplica"): ("replicas", "Replica")}
 
 
 def module_of(name):
@@ -52,7 +82,7 @@ class InterfaceTest(unittest.TestCase):
     def test_classes_are_defined_in_their_files(self):
         for key in METHODS:
             self.assertEqual(class_of(key).__module__, f"lastheld.{key[0]}")
-            self.assertEqual(class_of(key).__bases__, (object,))
+            self.assertEqual(class_of(key).__bases__, (class_of(BASES[key]) if key in BASES else object,))
 
     def test_methods_stand_in_the_class_itself(self):
         for key, methods in METHODS.items():
@@ -66,6 +96,18 @@ class InterfaceTest(unittest.TestCase):
             for method, signature in methods.items():
                 self.assertIsInstance(vars(class_of(key))[method], classmethod)
                 self.assertEqual(str(inspect.signature(getattr(class_of(key), method))), signature)
+
+    def test_static_methods(self):
+        for key, methods in STATIC_METHODS.items():
+            for method, signature in methods.items():
+                self.assertIsInstance(vars(class_of(key))[method], staticmethod)
+                self.assertEqual(str(inspect.signature(getattr(class_of(key), method))), signature)
+
+    def test_class_values(self):
+        for key, values in CLASS_VALUES.items():
+            for name, value in values.items():
+                self.assertEqual(vars(class_of(key))[name], value)
+                self.assertIs(vars(class_of(key))[name].__class__, value.__class__)
 
     def test_properties(self):
         for key, names in PROPERTIES.items():

@@ -5,6 +5,7 @@ import unittest
 
 import class_rules
 import language_rules as rules
+import object_rules
 
 ROOT = os.path.dirname(os.path.dirname(os.path.abspath(__file__)))
 FOLDER = os.path.join(ROOT, rules.PACKAGE)
@@ -31,7 +32,8 @@ class PackageTest(unittest.TestCase):
             self.assertTrue(os.path.isfile(os.path.join(FOLDER, name)), name)
 
     def test_the_files_of_the_interface_exist(self):
-        for name in ["errors.py", "names.py", "rationals.py", "sheets.py", "spaces.py", "settings.py", "holding.py"]:
+        for name in ["errors.py", "names.py", "rationals.py", "sheets.py", "spaces.py", "settings.py", "holding.py",
+                     "states.py", "replicas.py", "joining.py"]:
             self.assertIn(name, file_names())
 
     def test_texts(self):
@@ -44,6 +46,7 @@ class PackageTest(unittest.TestCase):
         texts = package_texts()
         for module, text in texts.items():
             self.assertEqual(class_rules.class_faults(text), [], module)
+            self.assertEqual(object_rules.object_faults(text), [], module)
         self.assertEqual(class_rules.package_faults(texts), [])
 
     def test_no_circle_of_imports(self):
@@ -219,6 +222,98 @@ class ClassRulesTest(unittest.TestCase):
         one = "class A:\n    def f(self):\n        pass\n"
         two = "class B:\n    def __init__(self):\n        self.f = 1\n"
         self.assertNotEqual(class_rules.package_faults({"lastheld.a": one, "lastheld.b": two}), [])
+
+
+GOOD_OBJECTS = '''"""Classes and tables."""
+
+from lastheld.errors import Bad
+
+
+def doubled(x):
+    """Twice."""
+    return x + x
+
+
+ACTIONS = {"double": doubled}
+FORMS = {"double": ("A", "B")}
+
+
+class Box:
+    """A box."""
+
+    MOST = 3
+    LEAST = -1
+
+    def __init__(self, rows):
+        self.kept = list(rows)
+
+    @staticmethod
+    def is_row(x):
+        """Whether it is a row."""
+        return isinstance(x, (str, Box))
+
+    @property
+    def many(self):
+        """How many."""
+        return len(self.kept)
+
+    def told(self, *words):
+        """What is told."""
+        action = ACTIONS["double"]
+        try:
+            return action(*words)
+        except (KeyError, Bad) as error:
+            raise Bad(FORMS.get("double")) from error
+
+
+class Crate(Box):
+    """A crate."""
+
+    def __init__(self, rows, most):
+        super().__init__(rows)
+        self.most = most
+
+    def told(self, *words):
+        """What is told."""
+        if "double" in FORMS:
+            raise Bad("x") from None
+        return super().told(*words)
+'''
+BAD_OBJECTS = [
+    "class A(object):\n    pass\n", "class A(dict):\n    pass\n", "class A(B):\n    pass\n\n\nclass B:\n    pass\n",
+    "class B:\n    pass\n\n\nclass A(B, ValueError):\n    pass\n", "class A(metaclass=B):\n    pass\n",
+    "def f():\n    class A:\n        pass\n", "class A:\n    def f(self):\n        return super().x\n",
+    "class A:\n    def f(self):\n        return super().__len__()\n", "class A:\n    def f(self):\n        super().__init__()\n",
+    "class A:\n    def f(self):\n        return super(A, self).f()\n",
+    "class A:\n    def f(self):\n        return [super().f() for x in self.a]\n",
+    "class A:\n    def f(self):\n        return lambda: super().f()\n",
+    "class A:\n    @classmethod\n    def f(cls):\n        return super().f()\n",
+    "class A:\n    @property\n    def f(self, x):\n        return x\n",
+    "class A:\n    @property\n    def f(self):\n        self.x = 1\n        return 1\n",
+    "class A:\n    @property\n    def f(self):\n        self.x[0] = 1\n        return 1\n",
+    "class A:\n    @staticmethod\n    def f(x):\n        yield x\n",
+    "class A:\n    X = []\n", "class A:\n    X = 1\n    X = 2\n", "class A:\n    X, Y = 1, 2\n", "class A:\n    x: int = 1\n",
+    "class A(ValueError):\n    X = 1\n", "class A:\n    if 1:\n        pass\n",
+    "def f(xs):\n    return f(*[x for x in xs])\n", "def f(xs):\n    return f(*list(xs))\n", "def f(d):\n    return f(**d.x())\n",
+    "def f(d):\n    return f(a=1, **d)\n", "class A:\n    pass\n\n\ndef f():\n    return A\n",
+    "class A:\n    pass\n\n\ndef f():\n    return [A]\n", "class A:\n    pass\n\n\ndef f():\n    return isinstance(A, str)\n",
+    "from lastheld.x import Box\n\n\ndef f(g):\n    return g(Box)\n",
+    "X = [[1]]\n", "X = {'a': {}}\n", "X = [1]\n\n\ndef f():\n    return X\n", "X = [1]\n\n\ndef f():\n    X.append(1)\n",
+    "X = {}\n\n\ndef f(k):\n    X[k] = 1\n", "X = {}\n\n\ndef f(k):\n    return X[k](1)\n", "X = {}\n\n\ndef f(k):\n    return k(X)\n",
+    "def f(x):\n    raise KeyError('a') from x.y\n", "def f(x):\n    raise KeyError('a') from x[0]\n",
+    "def f():\n    try:\n        pass\n    except KeyError as e:\n        e = 1\n",
+]
+
+
+class ObjectRulesTest(unittest.TestCase):
+    def test_a_good_text_has_no_faults(self):
+        self.assertEqual(object_rules.object_faults(GOOD_OBJECTS), [])
+        self.assertEqual(object_rules.object_faults(GOOD_CLASS), [])
+        self.assertEqual(class_rules.class_faults(GOOD_OBJECTS), [])
+
+    def test_each_bad_text_has_a_fault(self):
+        for text in BAD_OBJECTS:
+            self.assertNotEqual(object_rules.object_faults(text), [], text)
 
 
 if __name__ == "__main__":
