@@ -1,6 +1,6 @@
 """States: the held settings of a space, a clock, and the values that follow from them."""
 
-from lastheld.checks import check_equation, check_field
+from lastheld.checks import check_field
 from lastheld.errors import InvalidClock, OtherSheet
 from lastheld.holding import held_and_base
 from lastheld.names import is_integer
@@ -118,7 +118,6 @@ class State:
 
     def with_equation(self, equation):
         """The state of the held settings in the space with this equation as well."""
-        check_equation(self.area.sheet(), equation)
         return State(self.area.with_equations(equation), self.kept, clock=self.time)
 
     def changed_fields(self, other):

@@ -191,6 +191,83 @@ JOINING = """
 [State(['s', 'b'], 2), False, ([(0, 2, 'bo', 's', 10), (0, 2, 'ann', 'b', 4)], ['b'], ['s'])]
 """
 
+GROUPS = """
+>>> from lastheld.groups import Group
+>>> from lastheld.sheets import Sheet
+>>> group = Group(Sheet(["a", "b", "s"]), ["ann", "bo"])
+>>> leaving = [group.add_equation("ann", (1, 1, -1)), group.assign("ann", "a", 3)]
+>>> [group.deliver(group.send("ann"), to="bo"), group.assign("bo", "s", 10), group.assign("ann", "b", 4), group.deliver(group.send("bo"), to="ann")]
+[['a', 's'], 'b', 'b', ['a', 's']]
+"""
+
+KNOWN_SETTINGS = """
+>>> from lastheld.groups import Group
+>>> from lastheld.sheets import Sheet
+>>> group = Group(Sheet(["a", "b", "s"]), ["ann", "bo"])
+>>> leaving = [group.add_equation("ann", (1, 1, -1)), group.assign("ann", "a", 3)]
+>>> changed = [group.deliver(group.send("ann"), to="bo"), group.assign("bo", "s", 10), group.assign("ann", "b", 4), group.deliver(group.send("bo"), to="ann")]
+>>> [group.state("ann"), group.known_settings("ann"), group.state("ann") == group.full_state("ann")]
+[State(['s', 'b'], 2), [(0, 2, 'bo', 's', 10), (0, 2, 'ann', 'b', 4), (0, 1, 'ann', 'a', 3)], True]
+"""
+
+WISHES = """
+>>> from lastheld.replicas import Replica
+>>> from lastheld.sheets import Sheet
+>>> from lastheld.wishes import can_be_met, fulfil, is_conflict
+>>> replica = Replica("ann", Sheet(["a", "b", "s"]))
+>>> first = replica.add_equation((1, 1, -1))
+>>> wishes = [("a", 1), ("b", 2), ("s", 4)]
+>>> [can_be_met(replica.state(), wishes), is_conflict(replica.state(), wishes, ({"a": 1, "b": 1, "s": -1}, {})), fulfil(replica, [("a", 1), ("s", 5)]), replica]
+[False, True, ['b'], Replica('ann', {'a': 1, 'b': 4, 's': 5})]
+"""
+
+WISHES_WITH_LEVELS = """
+>>> from lastheld.replicas import Replica
+>>> from lastheld.sheets import Sheet
+>>> from lastheld.wishes import can_be_met, is_conflict
+>>> replica = Replica("ann", Sheet(["a", "b", "s"]))
+>>> leaving = [replica.add_equation((1, 1, -1)), replica.assign("s", 10, level=2)]
+>>> wishes = [("a", 1), ("b", 2)]
+>>> [can_be_met(replica.state(), wishes), can_be_met(replica.state(), wishes, level=2), is_conflict(replica.state(), wishes, ({"a": 2, "b": 2}, {"s": 2}))]
+[False, True, True]
+"""
+
+TEXTS = """
+>>> from lastheld.sheets import Sheet
+>>> from lastheld.spaces import Space
+>>> from lastheld.states import State
+>>> from lastheld.texts import parse_state, state_text
+>>> space = Space(Sheet(["a", "b", "s"]), [(1, 1, -1)])
+>>> state = State(space, [(0, 1, "ann", "a", 3), (0, 2, "bo", "s", (1, 2)), (0, 3, "ann", "b", 4)])
+>>> [state_text(state), parse_state(state_text(state)) == state]
+['sheet a b s\\nclock 3\\nequation 1 a 1 b -1 s\\nsetting 0 3 ann b 4\\nsetting 0 2 bo s 1/2\\n', True]
+"""
+
+WRONG_STATE_TEXT = """
+>>> from lastheld.texts import parse_state
+>>> parse_state("sheet a b\\nclock 2\\nequation 2 a 2 b\\n")
+raises InvalidText(line=3)
+"""
+
+CONSOLE = """
+>>> from lastheld.console import Console
+>>> from lastheld.groups import Group
+>>> from lastheld.sheets import Sheet
+>>> console = Console(Group(Sheet(["a", "b", "s"]), ["ann", "bo"]))
+>>> [console.run(["equation ann 1 a 1 b -1 s", "assign ann a 3 0", "assign ann b 1/2 1", "values ann"]), console.execute("held ann"), console.log()]
+[['s', 'a', 'b', 'a=3 b=1/2 s=7/2'], '1 2 ann b 1/2; 0 1 ann a 3', [('run', 4, 4), ('alone', 'held ann')]]
+"""
+
+CONSOLE_MESSAGES = """
+>>> from lastheld.console import Console
+>>> from lastheld.groups import Group
+>>> from lastheld.sheets import Sheet
+>>> console = Console(Group(Sheet(["a", "b"]), ["ann", "bo"]))
+>>> results = [console.execute("send ann"), console.execute("assign bo a 2 0"), console.execute("forecast ann bo")]
+>>> [results, console.execute("deliver 0 bo"), console.execute("rows bo")]
+[['0', 'a', 'b | a b'], '-', '-']
+"""
+
 
 def shown_error(error):
     """An error as the examples write it: its class, and its fields in their sequence."""
@@ -298,6 +375,30 @@ class ExampleTest(unittest.TestCase):
 
     def test_joining(self):
         self.assert_example(JOINING)
+
+    def test_groups(self):
+        self.assert_example(GROUPS)
+
+    def test_known_settings(self):
+        self.assert_example(KNOWN_SETTINGS)
+
+    def test_wishes(self):
+        self.assert_example(WISHES)
+
+    def test_wishes_with_levels(self):
+        self.assert_example(WISHES_WITH_LEVELS)
+
+    def test_texts(self):
+        self.assert_example(TEXTS)
+
+    def test_wrong_state_text(self):
+        self.assert_example(WRONG_STATE_TEXT)
+
+    def test_console(self):
+        self.assert_example(CONSOLE)
+
+    def test_console_messages(self):
+        self.assert_example(CONSOLE_MESSAGES)
 
 
 if __name__ == "__main__":

@@ -5,6 +5,12 @@ import inspect
 import unittest
 
 FUNCTIONS = {
+    "names": {"is_name": "(value)", "is_integer": "(value)"},
+    "rationals": {
+        "is_number": "(value)", "number": "(numerator, denominator=1)", "plus": "(*numbers)", "times": "(*numbers)",
+        "minus": "(first, second)", "divided": "(first, second)", "is_less": "(first, second)", "number_text": "(value)",
+        "parse_number": "(text)",
+    },
     "settings": {
         "is_setting": "(sheet, value)", "is_stronger": "(sheet, first, second)",
         "strongest_first": "(sheet, settings)",
@@ -15,6 +21,15 @@ FUNCTIONS = {
     "joining": {
         "joined": "(first, *others)", "join_steps": "(first, *others)", "brings_nothing": "(state, other)",
         "forecast": "(one, other)",
+    },
+    "wishes": {
+        "can_be_met": "(state, wishes, *, level=0)", "conflict": "(state, wishes, *, level=0)",
+        "is_conflict": "(state, wishes, value, *, level=0)", "fulfil": "(replica, wishes, *, level=0)",
+        "fulfil_in_group": "(group, name, wishes, *, level=0)",
+    },
+    "texts": {
+        "setting_text": "(sheet, setting)", "parse_setting": "(sheet, text)", "state_text": "(state)",
+        "parse_state": "(text)",
     },
 }
 METHODS = {
@@ -49,15 +64,28 @@ METHODS = {
         "__init__": "(self, name, sheet, *, most=20)", "__eq__": "(self, other)", "__repr__": "(self)",
         "records": "(self)", "clone": "(self)",
     },
+    ("groups", "Group"): {
+        "__init__": "(self, sheet, names)", "__eq__": "(self, other)", "__len__": "(self)", "__repr__": "(self)",
+        "sheet": "(self)", "names": "(self)", "state": "(self, name)", "assign": "(self, name, field, value, *, level=0)",
+        "add_equation": "(self, name, equation)", "send": "(self, name)", "deliver": "(self, number, *, to)",
+        "known_settings": "(self, name)", "known_equations": "(self, name)", "full_state": "(self, name)",
+        "clone": "(self)",
+    },
+    ("console", "Console"): {
+        "__init__": "(self, group)", "execute": "(self, command)", "run": "(self, commands)", "log": "(self)",
+        "group": "(self)",
+    },
 }
 CLASS_METHODS = {("sheets", "Sheet"): {"read": "(text)"}, ("spaces", "Space"): {"joined": "(first, *others)"}}
 STATIC_METHODS = {("replicas", "Replica"): {"is_level": "(value)"}}
 PROPERTIES = {
     ("sheets", "Sheet"): ["width"], ("spaces", "Space"): ["freedom"], ("states", "State"): ["clock", "freedom"],
     ("replicas", "Replica"): ["name", "clock", "freedom", "default_level"], ("replicas", "RecordingReplica"): ["total"],
+    ("groups", "Group"): ["message_count"],
 }
 CLASS_VALUES = {
     ("sheets", "Sheet"): {"MAX_FIELDS": 12}, ("replicas", "Replica"): {"ORDINARY": 0, "IMPORTANT": 1, "FIXED": 2},
+    ("groups", "Group"): {"MAX_REPLICAS": 6, "MAX_MESSAGES": 60},
 }
 BASES = {("replicas", "RecordingReplica"): ("replicas", "Replica")}
 

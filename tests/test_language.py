@@ -33,7 +33,7 @@ class PackageTest(unittest.TestCase):
 
     def test_the_files_of_the_interface_exist(self):
         for name in ["errors.py", "names.py", "rationals.py", "sheets.py", "spaces.py", "settings.py", "holding.py",
-                     "states.py", "replicas.py", "joining.py"]:
+                     "states.py", "replicas.py", "joining.py", "groups.py", "wishes.py", "texts.py", "console.py"]:
             self.assertIn(name, file_names())
 
     def test_texts(self):
